@@ -1,0 +1,1 @@
+"""Jointhold: land held jointly or in common, parts through deaths and severings."""

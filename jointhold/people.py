@@ -1,0 +1,36 @@
+"""People: their names, and the groups of them that deeds and questions name."""
+
+from jointhold.errors import BadGroup, BadNames
+
+CROWN = "CROWN"
+PERSONS_MOST = 30
+LETTERS_MOST = 12
+HOLDERS_MOST = 6
+
+
+def is_name(text):
+    # Each sign is compared by itself: letters beyond a to z count as small letters elsewhere.
+    return 1 <= len(text) <= LETTERS_MOST and all(["a" <= sign <= "z" for sign in text])
+
+
+def has_one_twice(names):
+    return len(set(names)) < len(names)
+
+
+def checked_names(names):
+    if len(names) < 1 or len(names) > PERSONS_MOST:
+        raise BadNames(f"1 to {PERSONS_MOST} names are asked for")
+    for name in names:
+        if not is_name(name):
+            raise BadNames(f"not a person's name: {name!r}")
+    if has_one_twice(names):
+        raise BadNames("a name stands twice")
+    return tuple(sorted(names))
+
+
+def group_of(names, least, most):
+    if len(names) < least or len(names) > most:
+        raise BadGroup(f"a group of {least} to {most} names is asked for")
+    if has_one_twice(names):
+        raise BadGroup("a name stands twice in a group")
+    return tuple(sorted(names))
