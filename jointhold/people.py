@@ -1,6 +1,6 @@
 """People: their names, and the groups of them that deeds and questions name."""
 
-from jointhold.errors import BadGroup, BadNames
+from jointhold.errors import BadGroup, BadNames, Dead, Unknown
 
 CROWN = "CROWN"
 PERSONS_MOST = 30
@@ -34,3 +34,21 @@ def group_of(names, least, most):
     if has_one_twice(names):
         raise BadGroup("a name stands twice in a group")
     return tuple(sorted(names))
+
+
+def names_without(names, gone):
+    return tuple([name for name in names if name not in gone])
+
+
+def check_known(names, known):
+    for name in names:
+        if name not in known:
+            raise Unknown(f"no person is called {name!r}")
+
+
+def check_living(names, known, dead):
+    # All of them ahead of the first dead one: Unknown is due first, whoever is named first.
+    check_known(names, known)
+    for name in names:
+        if name in dead:
+            raise Dead(f"{name!r} is dead")

@@ -2,6 +2,7 @@
 
 from jointhold.errors import NotHeld
 from jointhold.parts import checked_many, part_behind, part_numbered, with_part
+from jointhold.people import names_without
 from jointhold.shares import piece_of
 
 
@@ -13,7 +14,7 @@ def sever_part(parts, number, name, deed):
     many = len(holders)
     if many < 2 or name not in holders:
         raise NotHeld(f"{name!r} is not one of several holders of part {number}")
-    others = tuple([holder for holder in holders if holder != name])
+    others = names_without(holders, (name,))
     rest = part_behind(trail, deed, number, piece_of(share, many - 1, many), others)
     taken = part_behind(trail, deed, len(parts) + 1, piece_of(share, 1, many), (name,))
     return checked_many(with_part(parts, number, rest) + [taken])

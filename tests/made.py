@@ -6,6 +6,11 @@ import unittest
 SIX = ("ann", "bob", "cat", "dan", "eve", "fay")
 LARGEST = 10**400 - 1
 NUMBERS_OUT = (0, -1, -2, -60, 10**60, -(10**60))
+ALPHABET = "abcdefghijklmnopqrstuvwxyz"
+
+
+def many_names(count):
+    return ["n" + ALPHABET[k // 26] + ALPHABET[k % 26] for k in range(count)]
 
 
 def told(fraction):
@@ -88,3 +93,59 @@ class PartsTest(unittest.TestCase):
             with self.assertRaises(refusal):
                 deed_done(handed)
             self.assertEqual(handed, ahead)
+
+
+# Nobody of the registers below has such a name.
+NAMES_OUT = ("zzz", "an", "anna", "Ann", "ANN", "", " ", "~", "ann ", "a" * 20, "~" * 20, "ann bob", "1")
+# abe and zed are those who are dead where somebody is: one ahead of all others, one behind.
+NAMES = ("abe",) + SIX + ("gus", "hal", "zed")
+TRIO = SIX[:3]
+# A deed of each kind, told as deeds() tells them: a joint part falls, a part comes to the crown.
+STORY = (
+    ("grant", TRIO),
+    ("sever", "bob", 1),
+    ("follow", "ann", "dan"),
+    ("hand", "bob", 2, 5, ("dan", "eve")),
+    ("follow", "bob", "gus"),
+    ("die", ("ann", "cat")),
+    ("hand", "dan", 1, 20, ("fay",)),
+)
+
+
+def everything(land, names=NAMES):
+    """All that a register tells: two that tell the same of this tell the same of everything asked here."""
+    living = land.living()
+    return {
+        "parts": land.parts(),
+        "deeds": land.deeds(),
+        "living": living,
+        "followers": [land.follower(name) for name in names],
+        "held": [land.held(name) for name in names + ("CROWN",)],
+        "stake": [land.stake(name) for name in names + ("CROWN",)],
+        "stakes": land.stakes(),
+        "came by": [land.came_by(number) for number in range(1, len(land.parts()) + 1)],
+        "if died": [land.if_died(row) for row in ([], living[:1], living[-2:], living[5::-1])],
+        "best order": [land.best_order(name, living[:3]) for name in living],
+    }
+
+
+def with_dead(land):
+    """Lets abe and zed die, who hold nothing."""
+    land.die(["zed", "abe"])
+    return land
+
+
+def in_many_parts(land):
+    """Grants to ann alone and goes on to 60 parts by 60 deeds: part 2 is of ann and bob, the others of ann."""
+    land.grant(["ann"])
+    land.hand("ann", 1, 1, ["bob", "ann"])
+    for number in range(3, 61):
+        land.hand("ann", 1, 1, ["ann"])
+    return land
+
+
+def by_many_deeds(land):
+    """Goes on to 200 standing deeds that touch no part."""
+    while len(land.deeds()) < 200:
+        land.follow("ann", "bob")
+    return land

@@ -2,8 +2,9 @@ import copy
 import unittest
 
 from jointhold.followers import heir_of
+from tests.made import many_names
 
-THIRTY = ["n" + "abcdefghijklmnopqrstuvwxyz"[k // 26] + "abcdefghijklmnopqrstuvwxyz"[k % 26] for k in range(30)]
+THIRTY = many_names(30)
 
 
 class HeirTest(unittest.TestCase):

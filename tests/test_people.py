@@ -2,12 +2,7 @@ import unittest
 
 from jointhold.errors import BadGroup, BadNames
 from jointhold.people import CROWN, HOLDERS_MOST, LETTERS_MOST, PERSONS_MOST, checked_names, group_of
-
-ALPHABET = "abcdefghijklmnopqrstuvwxyz"
-
-
-def many_names(count):
-    return ["n" + ALPHABET[k // 26] + ALPHABET[k % 26] for k in range(count)]
+from tests.made import ALPHABET, many_names
 
 
 class ConstantsTest(unittest.TestCase):
